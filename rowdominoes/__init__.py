@@ -1,0 +1,1 @@
+"""Rowdominoes: stones that fell each other."""

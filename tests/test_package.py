@@ -1,0 +1,61 @@
+"""The form of the package: its interface and the rules that a test can see at a glance."""
+
+import ast
+import importlib
+import pathlib
+import re
+import unittest
+
+from rowdominoes.rows import Row
+
+PACKAGE = pathlib.Path(__file__).resolve().parent.parent / "rowdominoes"
+FILES = sorted(PACKAGE.glob("*.py"))
+INTERFACE = {
+    "rowdominoes.errors": ("StoneError",),
+    "rowdominoes.rows": ("Row",),
+    "rowdominoes.runs": ("fall_ticks", "greatest_runs", "fewest_to_side", "spared_without", "falls_by",
+                         "fewest_pushes", "first_unlike_push"),
+}
+ROW = ("even", "stones", "places", "MAX_STONES", "without", "with_height", "__len__", "__getitem__", "__contains__",
+       "__add__", "__rshift__", "__invert__", "__eq__", "__call__", "__iter__")
+LIBRARY = ("heapq", "math", "itertools", "collections")
+
+
+class PackageTest(unittest.TestCase):
+
+    def test_interface_is_defined_where_it_is_listed(self):
+        for module, names in INTERFACE.items():
+            for name in names:
+                self.assertEqual(getattr(importlib.import_module(module), name).__module__, module)
+        for name in ROW:
+            self.assertIn(name, vars(Row))
+
+    def test_folder_holds_plain_files_only(self):
+        names = [path.name for path in PACKAGE.iterdir() if path.name != "__pycache__"]
+        self.assertIn("__init__.py", names)
+        for name in names:
+            self.assertRegex(name, r"^[a-z0-9_]+\.py$")
+
+    def test_characters_and_sizes(self):
+        for path in FILES:
+            text = path.read_text(encoding="utf-8")
+            with self.subTest(path=path.name):
+                self.assertIsNone(re.search(r"[^\n -~]", text))
+                self.assertLessEqual(len(text.splitlines()), 399)
+                self.assertLessEqual(max(map(len, text.splitlines())), 120)
+                for node in ast.walk(ast.parse(text)):
+                    if isinstance(node, ast.FunctionDef):
+                        self.assertLessEqual(node.end_lineno - node.lineno + 1, 40)
+
+    def test_imports(self):
+        for path in FILES:
+            for node in ast.walk(ast.parse(path.read_text(encoding="utf-8"))):
+                with self.subTest(path=path.name):
+                    self.assertNotIsInstance(node, ast.Import)
+                    if isinstance(node, ast.ImportFrom):
+                        self.assertEqual(node.level, 0)
+                        self.assertIn(node.module.split(".")[0], ("rowdominoes",) + LIBRARY)
+
+
+if __name__ == "__main__":
+    unittest.main()
