@@ -6,6 +6,8 @@ import pathlib
 import re
 import unittest
 
+from rowdominoes.endless import EndlessRow, Wave
+from rowdominoes.live import LiveRow
 from rowdominoes.rows import Row
 
 PACKAGE = pathlib.Path(__file__).resolve().parent.parent / "rowdominoes"
@@ -15,9 +17,20 @@ INTERFACE = {
     "rowdominoes.rows": ("Row",),
     "rowdominoes.runs": ("fall_ticks", "greatest_runs", "fewest_to_side", "spared_without", "falls_by",
                          "fewest_pushes", "first_unlike_push"),
+    "rowdominoes.cutting": ("fewest_taken", "least_height", "least_heights", "safe_growth"),
+    "rowdominoes.endless": ("EndlessRow", "Wave", "repeating_ticks"),
+    "rowdominoes.live": ("LiveRow",),
 }
 ROW = ("even", "stones", "places", "MAX_STONES", "without", "with_height", "__len__", "__getitem__", "__contains__",
        "__add__", "__rshift__", "__invert__", "__eq__", "__call__", "__iter__")
+LIVE_ROW = ("push", "lift", "take", "standing", "lying", "history", "undo", "redo", "apply", "replay",
+            "standing_after", "__contains__", "__len__", "__enter__", "__exit__")
+METHODS = (
+    (Row, ROW),
+    (EndlessRow, ("row", "period", "wave")),
+    (Wave, ("is_endless", "last_fallen", "count_after", "tick_of")),
+    (LiveRow, LIVE_ROW),
+)
 LIBRARY = ("heapq", "math", "itertools", "collections")
 
 
@@ -27,8 +40,11 @@ class PackageTest(unittest.TestCase):
         for module, names in INTERFACE.items():
             for name in names:
                 self.assertEqual(getattr(importlib.import_module(module), name).__module__, module)
-        for name in ROW:
-            self.assertIn(name, vars(Row))
+
+    def test_methods_are_defined_in_the_class_itself(self):
+        for owner, names in METHODS:
+            for name in names:
+                self.assertIn(name, vars(owner))
 
     def test_folder_holds_plain_files_only(self):
         names = [path.name for path in PACKAGE.iterdir() if path.name != "__pycache__"]
