@@ -66,6 +66,15 @@ def tumble(stones, standing, stone, side):
     return ticks
 
 
+def felled(stones, stone, side):
+    """The ascending list of the stones that a push fells while all stones stand."""
+    return sorted(tumble(stones, range(len(stones)), stone, side))
+
+
+def all_pushes(row):
+    return list(itertools.product(range(len(row)), SIDES))
+
+
 def fewest_by_trying(row):
     """The least number of pushes that fell all stones, by a try of all lists of pushes."""
     stones = row.stones
